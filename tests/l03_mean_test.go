@@ -484,8 +484,9 @@ func mainAnd(bodies ...impl.Exp) impl.Program {
 	return p
 }
 
-func TestMeanOfNoProgram(t *testing.T) {
-	for _, p := range []impl.Program{
+// wrongPrograms are not ProgramOk, each for one reason.
+func wrongPrograms() []impl.Program {
+	return []impl.Program{
 		{},
 		{Names: []string{}, Bodies: []impl.Exp{}},
 		{Names: []string{"main"}},
@@ -526,7 +527,11 @@ func TestMeanOfNoProgram(t *testing.T) {
 		mainAnd(make([]impl.Exp, 31)...),
 		mainAnd(endlessExp(impl.ExPar, 2)),
 		mainAnd(endlessExp(impl.ExApp, 2)),
-	} {
+	}
+}
+
+func TestMeanOfNoProgram(t *testing.T) {
+	for _, p := range wrongPrograms() {
 		for _, fuel := range []int{-1, 0, 1, someFuel, impl.MaxFuel, impl.MaxFuel + 1} {
 			wantNone(t, p, fuel)
 		}
