@@ -147,6 +147,38 @@ func TestTableOfWhatStandsTwice(t *testing.T) {
 	}
 }
 
+// The document names no limit on how many expressions a program has.
+func TestTableOfVeryManyExpressions(t *testing.T) {
+	const deep = 23
+	table := impl.TableOf(mainAnd(num(5), sharedExp(deep, num(3)), num(6), num(7)))
+	if count := 1<<(deep+1) + 2; len(table.Codes) != count || !slices.Equal(table.Tops, []int{0, 1, count - 2, count - 1}) {
+		t.Fatal(len(table.Codes), "codes, tops", table.Tops)
+	}
+	wantHalves(t, table, 1, deep)
+	for _, i := range []int{0, len(table.Codes) - 2, len(table.Codes) - 1} {
+		if c := table.Codes[i]; c.Kind != impl.ExNum || len(c.Kids) != 0 {
+			t.Error(i, c)
+		}
+	}
+}
+
+// wantHalves asks for the codes of a sharedExp of threes, from number at on.
+func wantHalves(t *testing.T, table impl.Table, at int, deep int) {
+	t.Helper()
+	c := table.Codes[at]
+	if deep == 0 {
+		if c.Kind != impl.ExNum || c.N != 3 || len(c.Kids) != 0 {
+			t.Fatal(at, c)
+		}
+		return
+	}
+	if len(c.Kids) != 2 || c.Kids[0] != at+1 || c.Kids[1] != at+1<<deep {
+		t.Fatal(at, c)
+	}
+	wantHalves(t, table, c.Kids[0], deep-1)
+	wantHalves(t, table, c.Kids[1], deep-1)
+}
+
 // wantEachBack asks for promise 4, of all that is within the bodies too.
 func wantEachBack(t *testing.T, p impl.Program) {
 	t.Helper()
@@ -521,6 +553,13 @@ func TestTablesAnswerAtAnyArguments(t *testing.T) {
 		wantZeroTable(t, mainAnd(slices.Repeat([]impl.Exp{sharedExp(deep, num(1))}, 30)...))
 		wantZeroTable(t, mainAnd(num(1), sharedExp(deep, num(1))))
 	}
+	// So many that their number goes around 64 bits and comes to 1.
+	around := slices.Repeat([]impl.Exp{sharedExp(60, num(1))}, 8)
+	p := mainAnd(append(around, slices.Repeat([]impl.Exp{num(1)}, 9)...)...)
+	if impl.Size(p) != 1 || !impl.ProgramOk(p) {
+		t.Fatal(impl.Size(p))
+	}
+	wantZeroTable(t, p)
 	if table := impl.TableOf(oneBody(sharedExp(18, num(1)))); len(table.Codes) != 1<<19-1 || !impl.TableOk(table) {
 		t.Error(len(table.Codes), "codes")
 	}
