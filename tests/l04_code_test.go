@@ -24,11 +24,11 @@ func wantPut(t *testing.T, text string, want string) {
 func wantRight(t *testing.T, table impl.Table) {
 	t.Helper()
 	if !impl.TableOk(table) || impl.PutTable(table) != plainPut(table) {
-		t.Errorf("%.300v is right, and puts %.300q", table, impl.PutTable(table))
+		t.Errorf("%s is right, and puts %.300q", brief(table), impl.PutTable(table))
 	}
 	for _, i := range []int{0, len(table.Codes) - 1} {
 		if _, ok := impl.ExpAt(table, i); !ok {
-			t.Errorf("%.300v has an expression %d", table, i)
+			t.Errorf("%s has an expression %d", brief(table), i)
 		}
 	}
 }
@@ -36,7 +36,7 @@ func wantRight(t *testing.T, table impl.Table) {
 func wantNoTable(t *testing.T, table impl.Table) {
 	t.Helper()
 	if impl.TableOk(table) || impl.PutTable(table) != "" {
-		t.Errorf("%.300v is not right, and puts %.300q", table, impl.PutTable(table))
+		t.Errorf("%s is not right, and puts %.300q", brief(table), impl.PutTable(table))
 	}
 	for _, i := range []int{-1, 0, 1, len(table.Codes) - 1, len(table.Codes)} {
 		wantNoExp(t, table, i)
@@ -46,14 +46,14 @@ func wantNoTable(t *testing.T, table impl.Table) {
 func wantNoExp(t *testing.T, table impl.Table, i int) {
 	t.Helper()
 	if e, ok := impl.ExpAt(table, i); ok || !reflect.DeepEqual(e, impl.Exp{}) {
-		t.Errorf("ExpAt(%.300v, %d) = %v, %t", table, i, e, ok)
+		t.Errorf("ExpAt(%s, %d) = %v, %t", brief(table), i, e, ok)
 	}
 }
 
 func wantZeroTable(t *testing.T, p impl.Program) {
 	t.Helper()
 	if table := impl.TableOf(p); len(table.Codes) != 0 || len(table.Tops) != 0 {
-		t.Errorf("TableOf(%.300v) = %.300v", p, table)
+		t.Errorf("TableOf(%s) = %s", brief(p), brief(table))
 	}
 }
 

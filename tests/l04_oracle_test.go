@@ -162,6 +162,9 @@ func changedTables(t impl.Table) []impl.Table {
 	return all
 }
 
+// brief tells the beginning of what may be long, for a test that fails.
+func brief(what any) string { return fmt.Sprintf("%.1500s", fmt.Sprint(what)) }
+
 func changedLists(list []int, codes int) [][]int {
 	all := [][]int{nil, append(slices.Clone(list), codes), append(slices.Clone(list), codes-1), append([]int{0}, list...), append(slices.Clone(list), list...)}
 	for i, n := range list {

@@ -33,10 +33,10 @@ func eachKind() []impl.Cell {
 func wantHeap(t *testing.T, right bool, codes int, heap ...impl.Cell) {
 	t.Helper()
 	if impl.HeapOk(heap, codes) != right {
-		t.Errorf("HeapOk(%.300v, %d) = %t", heap, codes, !right)
+		t.Errorf("HeapOk(%s, %d) = %t", brief(heap), codes, !right)
 	}
 	if plainHeapOk(heap, codes) != right {
-		t.Errorf("the oracle tells HeapOk(%.300v, %d) = %t", heap, codes, !right)
+		t.Errorf("the oracle tells HeapOk(%s, %d) = %t", brief(heap), codes, !right)
 	}
 }
 
@@ -45,16 +45,16 @@ func wantAll(t *testing.T, heap []impl.Cell, roots []int) {
 	t.Helper()
 	for _, at := range append(placesAround(len(heap)), roots...) {
 		if got, want := impl.Follow(heap, at), plainFollow(heap, at); got != want {
-			t.Fatalf("Follow(%.300v, %d) = %d; want %d", heap, at, got, want)
+			t.Fatalf("Follow(%s, %d) = %d; want %d", brief(heap), at, got, want)
 		}
 	}
 	if got, want := impl.Alive(heap, roots), plainAlive(heap, roots); !slices.Equal(got, want) {
-		t.Fatalf("Alive(%.300v, %v) = %v; want %v", heap, roots, got, want)
+		t.Fatalf("Alive(%s, %v) = %v; want %v", brief(heap), roots, got, want)
 	}
 	cells, places := impl.Collect(heap, roots)
 	wantCells, wantPlaces := plainCollect(heap, roots)
 	if !reflect.DeepEqual(copyHeap(cells), wantCells) || !slices.Equal(places, wantPlaces) {
-		t.Fatalf("Collect(%.300v, %v) = %.300v, %v; want %.300v, %v", heap, roots, cells, places, wantCells, wantPlaces)
+		t.Fatalf("Collect(%s, %v) = %s, %v; want %s, %v", brief(heap), roots, brief(cells), places, brief(wantCells), wantPlaces)
 	}
 	wantSameGraph(t, heap, roots, cells, places)
 }

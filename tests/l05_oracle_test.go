@@ -163,17 +163,17 @@ func wantSameGraph(t *testing.T, heap []impl.Cell, roots []int, made []impl.Cell
 	t.Helper()
 	p := pairing{old: heap, made: made, newOf: map[int]int{}}
 	if !p.pair(roots, newRoots) {
-		t.Fatalf("%.300v from %v: roots %v", heap, roots, newRoots)
+		t.Fatalf("%s from %v: roots %v", brief(heap), roots, newRoots)
 	}
 	for len(p.waiting) > 0 {
 		was, is := heap[p.waiting[0][0]], made[p.waiting[0][1]]
 		p.waiting = p.waiting[1:]
 		if was.Kind != is.Kind || was.N != is.N || was.At != is.At || !p.pair(was.Kids, is.Kids) {
-			t.Fatalf("%.300v from %v: %v became %v", heap, roots, was, is)
+			t.Fatalf("%s from %v: %v became %v", brief(heap), roots, was, is)
 		}
 	}
 	if len(p.newOf) != len(made) {
-		t.Fatalf("%.300v from %v: %d cells, of which one comes to %d", heap, roots, len(made), len(p.newOf))
+		t.Fatalf("%s from %v: %d cells, of which one comes to %d", brief(heap), roots, len(made), len(p.newOf))
 	}
 	wantInOrder(t, p.newOf)
 }

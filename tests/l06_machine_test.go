@@ -72,7 +72,7 @@ func sameMachine(a impl.Machine, b impl.Machine) bool {
 func wantMachine(t *testing.T, got impl.Machine, want impl.Machine) {
 	t.Helper()
 	if !sameMachine(got, want) {
-		t.Fatalf("%.1500v\nwant\n%.1500v", got, want)
+		t.Fatalf("%s\nwant\n%s", brief(got), brief(want))
 	}
 }
 
@@ -323,10 +323,10 @@ func fullMachine(t *testing.T) impl.Machine {
 func wantRightMachine(t *testing.T, right bool, m impl.Machine) {
 	t.Helper()
 	if impl.MachineOk(m) != right {
-		t.Fatalf("MachineOk(%.1500v) = %t", m, !right)
+		t.Fatalf("MachineOk(%s) = %t", brief(m), !right)
 	}
 	if plainMachineOk(m) != right {
-		t.Fatalf("the oracle tells MachineOk(%.1500v) = %t", m, !right)
+		t.Fatalf("the oracle tells MachineOk(%s) = %t", brief(m), !right)
 	}
 }
 

@@ -71,24 +71,24 @@ func sameMsg(a impl.Msg, b impl.Msg) bool { return reflect.DeepEqual(copyMsg(a),
 func wantMsg(t *testing.T, right bool, m impl.Msg) {
 	t.Helper()
 	if plainMsgOk(m) != right {
-		t.Errorf("the oracle tells %.300v: %t", m, !right)
+		t.Errorf("the oracle tells %s: %t", brief(m), !right)
 	}
 	bytes, text, back := "", "", impl.Msg{}
 	if right {
 		bytes, text, back = msgBytes(m), plainMsgText(m), m
 	}
 	if got := impl.MsgOk(m); got != right {
-		t.Errorf("MsgOk(%.300v) = %t", m, got)
+		t.Errorf("MsgOk(%s) = %t", brief(m), got)
 	}
 	if got := impl.PutMsg(m); got != bytes {
-		t.Errorf("PutMsg(%.300v) = %.400x; want %.400x", m, got, bytes)
+		t.Errorf("PutMsg(%s) = %.400x; want %.400x", brief(m), got, bytes)
 	}
 	if got := impl.MsgText(m); got != text {
-		t.Errorf("MsgText(%.300v) = %.300q; want %.300q", m, got, text)
+		t.Errorf("MsgText(%s) = %.300q; want %.300q", brief(m), got, text)
 	}
 	// The bytes that a wrong message would have are none's either.
 	if got, ok := impl.GetMsg(msgBytes(m)); ok != right || !sameMsg(got, back) {
-		t.Errorf("GetMsg of the bytes of %.300v = %.300v, %t", m, got, ok)
+		t.Errorf("GetMsg of the bytes of %s = %s, %t", brief(m), brief(got), ok)
 	}
 }
 
@@ -124,10 +124,10 @@ func wantMsgBytes(t *testing.T, s string) bool {
 	m, ok := impl.GetMsg(s)
 	want, right := plainGetMsg(s)
 	if ok != right || !sameMsg(m, want) {
-		t.Fatalf("GetMsg(%.400x) = %.300v, %t; want %.300v, %t", s, m, ok, want, right)
+		t.Fatalf("GetMsg(%.400x) = %s, %t; want %s, %t", s, brief(m), ok, brief(want), right)
 	}
 	if ok && impl.PutMsg(m) != s {
-		t.Fatalf("PutMsg of %.300v is not %.400x", m, s)
+		t.Fatalf("PutMsg of %s is not %.400x", brief(m), s)
 	}
 	return ok
 }
