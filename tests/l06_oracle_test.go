@@ -379,8 +379,11 @@ func newMachineMaker(seed uint64) *machineMaker {
 	return &machineMaker{sortMaker: newSortMaker(seed)}
 }
 
-func (k *machineMaker) machine() impl.Machine {
-	m := impl.Machine{Table: plainTable(k.program())}
+func (k *machineMaker) machine() impl.Machine { return k.machineBy(plainTable(k.program())) }
+
+// machineBy makes one of a table that is right.
+func (k *machineMaker) machineBy(table impl.Table) impl.Machine {
+	m := impl.Machine{Table: table}
 	k.wants = nil
 	for at := range m.Table.Codes {
 		k.wants = append(k.wants, plainScopeOf(m.Table, at))
